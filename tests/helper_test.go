@@ -34,6 +34,14 @@ func isCode(t *testing.T, name string, got, want int64, results ...any) {
 	}
 }
 
+// isTexts compares lists of texts one by one; printed, two texts look like one with a blank.
+func isTexts(t *testing.T, name string, got []string, code int64, want []string) {
+	t.Helper()
+	if code != impl.OK || !slices.Equal(got, want) {
+		t.Errorf("%s: got %q and the code %d, want %q", name, got, code, want)
+	}
+}
+
 func isNothing(result any) bool {
 	v := reflect.ValueOf(result)
 	return v.IsZero() || v.Kind() == reflect.Slice && v.Len() == 0

@@ -1,9 +1,7 @@
 package tests
 
 import (
-	"fmt"
 	"math"
-	"reflect"
 	"slices"
 	"strings"
 	"testing"
@@ -22,16 +20,9 @@ type letterArgs struct {
 	num   int64
 }
 
-// call is one function; it returns all results, the code last, where there is one.
-type call struct {
-	name string
-	run  func(a letterArgs) []any
-	code bool
-}
-
-func letterCalls() []call {
+func letterCalls() []call[letterArgs] {
 	two := func(a any, code int64) []any { return []any{a, code} }
-	return []call{
+	return []call[letterArgs]{
 		{"CodeName", func(a letterArgs) []any { return []any{impl.CodeName(a.num)} }, false},
 		{"ValidFace", func(a letterArgs) []any { return []any{impl.ValidFace(a.face)} }, false},
 		{"SameFace", func(a letterArgs) []any { return []any{impl.SameFace(a.face, a.other)} }, false},
@@ -80,16 +71,7 @@ func letterCases() []letterArgs {
 func TestP1EveryFunctionReturnsForAllArguments(t *testing.T) {
 	for _, a := range letterCases() {
 		for _, c := range letterCalls() {
-			results := c.run(a)
-			if !c.code {
-				continue
-			}
-			last := len(results) - 1
-			code := results[last].(int64)
-			if impl.CodeName(code) == "" {
-				t.Errorf("%s returns the code %d", c.name, code)
-			}
-			isCode(t, c.name, code, code, results[:last]...)
+			isCall(t, c, a)
 		}
 	}
 }
@@ -117,89 +99,27 @@ func TestP1EveryFunctionReturnsForGreatArguments(t *testing.T) {
 }
 
 func TestP1EqualArgumentsHaveEqualResults(t *testing.T) {
-	cases := letterCases()
-	calls := letterCalls()
-	first := make([]string, 0, len(cases)*len(calls))
-	for _, a := range cases {
-		for _, c := range calls {
-			first = append(first, fmt.Sprintf("%v", c.run(a)))
-		}
-	}
-	// The second time in the other order, and with other memory.
-	at := len(first)
-	for i := range cases {
-		a := cases[len(cases)-1-i]
-		a.face.Pairs = append(make([]impl.Pair, 0, 99), a.face.Pairs...)
-		a.words = append(make([]string, 0, 99), a.words...)
+	haveEqualResults(t, letterCases(), letterCalls(), func(a letterArgs) letterArgs {
+		a.face.Pairs = elsewhere(a.face.Pairs)
+		a.words = elsewhere(a.words)
 		a.text = strings.Clone(a.text)
-		for j := range calls {
-			c := calls[len(calls)-1-j]
-			at--
-			if got := fmt.Sprintf("%v", c.run(a)); got != first[at] {
-				t.Errorf("%s: got %s, and then %s", c.name, first[at], got)
-			}
-		}
-	}
+		return a
+	})
 }
 
-// roomy returns a list with more capacity, in all of which there is something.
-func roomy[T any](list []T, filler T) ([]T, []T) {
-	all := append(slices.Clone(list), filler, filler, filler)
-	return all[:len(list)], all
+func guardLetters(a letterArgs) (letterArgs, func() bool) {
+	pairs := guard(&a.face.Pairs, impl.Pair{A: 'X', B: 'Y', By: 9})
+	others := guard(&a.other.Pairs, impl.Pair{A: 'X', B: 'Y', By: 9})
+	words := guard(&a.words, "SPARE")
+	return a, func() bool { return pairs() && others() && words() }
 }
 
 func TestP1ArgumentsAreNotModified(t *testing.T) {
-	for _, a := range letterCases() {
-		var pairs, others []impl.Pair
-		var words []string
-		a.face.Pairs, pairs = roomy(a.face.Pairs, impl.Pair{A: 'X', B: 'Y', By: 9})
-		a.other.Pairs, others = roomy(a.other.Pairs, impl.Pair{A: 'X', B: 'Y', By: 9})
-		a.words, words = roomy(a.words, "SPARE")
-		wasPairs, wasOthers, wasWords := slices.Clone(pairs), slices.Clone(others), slices.Clone(words)
-		for _, c := range letterCalls() {
-			c.run(a)
-			if !slices.Equal(pairs, wasPairs) || !slices.Equal(others, wasOthers) || !slices.Equal(words, wasWords) {
-				t.Fatalf("%s modifies an argument", c.name)
-			}
-		}
-	}
-}
-
-// scribble writes zeros into all the memory of a result, also beyond its length.
-func scribble(result any) {
-	v := reflect.ValueOf(result)
-	if v.Kind() == reflect.Struct {
-		v = v.FieldByName("Pairs")
-	}
-	if v.Kind() == reflect.Slice {
-		all := v.Slice(0, v.Cap())
-		for i := range all.Len() {
-			all.Index(i).SetZero()
-		}
-	}
+	doNotModify(t, letterCases(), letterCalls(), guardLetters)
 }
 
 func TestP1ResultsShareNoMemory(t *testing.T) {
-	for _, a := range letterCases() {
-		var pairs []impl.Pair
-		var words []string
-		a.face.Pairs, pairs = roomy(a.face.Pairs, impl.Pair{A: 'X', B: 'Y', By: 9})
-		a.words, words = roomy(a.words, "SPARE")
-		wasPairs, wasWords := slices.Clone(pairs), slices.Clone(words)
-		for _, c := range letterCalls() {
-			first, second := c.run(a), c.run(a)
-			want := fmt.Sprintf("%v", second)
-			for _, r := range first {
-				scribble(r)
-			}
-			if fmt.Sprintf("%v", second) != want {
-				t.Fatalf("%s: two results share memory", c.name)
-			}
-			if !slices.Equal(pairs, wasPairs) || !slices.Equal(words, wasWords) {
-				t.Fatalf("%s: a result shares memory with an argument", c.name)
-			}
-		}
-	}
+	shareNoMemory(t, letterCases(), letterCalls(), guardLetters)
 }
 
 func TestP1TheOrderOfErrors(t *testing.T) {
@@ -211,9 +131,7 @@ func TestP1TheOrderOfErrors(t *testing.T) {
 		for name, f := range badFaces() {
 			// Everything else is wrong too, but for the text, so that the face alone has to be noticed.
 			for _, text := range []string{"A", ""} {
-				results := c.run(letterArgs{face: f, text: text, pair: impl.Pair{A: 'a', B: 'b', By: 99}, num: -1})
-				last := len(results) - 1
-				isCode(t, c.name+", "+name, results[last].(int64), impl.ErrInvalid, results[:last]...)
+				isError(t, name, c, letterArgs{face: f, text: text, pair: impl.Pair{A: 'a', B: 'b', By: 99}, num: -1}, impl.ErrInvalid)
 			}
 		}
 	}
@@ -224,9 +142,7 @@ func TestP1TheOrderOfErrors(t *testing.T) {
 		}
 		for _, text := range badTexts() {
 			for _, n := range []int64{-1, 0, 80, math.MaxInt64} {
-				results := c.run(letterArgs{face: exampleFace(), text: text, num: n})
-				last := len(results) - 1
-				isCode(t, c.name+" "+text, results[last].(int64), impl.ErrInvalid, results[:last]...)
+				isError(t, text, c, letterArgs{face: exampleFace(), text: text, num: n}, impl.ErrInvalid)
 			}
 		}
 	}
