@@ -164,3 +164,17 @@ func randomText(r *rand.Rand) string {
 	}
 	return text
 }
+
+// changedText is a text of which one or two bytes are taken away, or into which odd ones are put.
+func changedText(r *rand.Rand, text, odd string) string {
+	changed := []byte(text)
+	for range 1 + r.Intn(2) {
+		at, b := r.Intn(len(changed)+1), odd[r.Intn(len(odd))]
+		if at < len(changed) && r.Intn(2) == 0 {
+			changed = slices.Delete(changed, at, at+1)
+		} else {
+			changed = slices.Insert(changed, at, b)
+		}
+	}
+	return string(changed)
+}

@@ -522,21 +522,13 @@ func TestP5ShortsAreReadFromTheirTexts(t *testing.T) {
 		is(t, "ShortsText", impl.ShortsText(list), text)
 		read, code := impl.ReadShorts(text)
 		is(t, "ReadShorts "+text, []any{len(read), read, code}, []any{len(list), list, 0})
-		changed := []byte(text)
-		for range 1 + r.Intn(2) {
-			at, b := r.Intn(len(changed)+1), odd[r.Intn(len(odd))]
-			if at < len(changed) && r.Intn(2) == 0 {
-				changed = slices.Delete(changed, at, at+1)
-			} else {
-				changed = slices.Insert(changed, at, b)
-			}
-		}
-		want, found := readShortsByHand(string(changed))
-		read, code = impl.ReadShorts(string(changed))
+		changed := changedText(r, text, odd)
+		want, found := readShortsByHand(changed)
+		read, code = impl.ReadShorts(changed)
 		if !found {
-			isCode(t, "ReadShorts "+string(changed), code, impl.ErrSyntax, read)
+			isCode(t, "ReadShorts "+changed, code, impl.ErrSyntax, read)
 			continue
 		}
-		is(t, "ReadShorts "+string(changed), []any{len(read), read, code}, []any{len(want), want, 0})
+		is(t, "ReadShorts "+changed, []any{len(read), read, code}, []any{len(want), want, 0})
 	}
 }

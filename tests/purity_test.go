@@ -88,13 +88,15 @@ func doNotModify[A any](t *testing.T, cases []A, calls []call[A], guarded func(a
 	}
 }
 
-// scribble writes zeros into all the memory of a result, also beyond its length.
+// scribble writes zeros into all the memory of a result, or of its fields, also beyond its length.
 func scribble(result any) {
 	v := reflect.ValueOf(result)
-	if v.Kind() == reflect.Struct {
-		v = v.FieldByName("Pairs")
-	}
-	if v.Kind() == reflect.Slice {
+	switch v.Kind() {
+	case reflect.Struct:
+		for i := range v.NumField() {
+			scribble(v.Field(i).Interface())
+		}
+	case reflect.Slice:
 		all := v.Slice(0, v.Cap())
 		for i := range all.Len() {
 			all.Index(i).SetZero()
