@@ -2,12 +2,10 @@ package tests
 
 import (
 	"math"
-	"runtime"
 	"slices"
 	"strings"
 	"sync"
 	"testing"
-	"time"
 
 	"loop.example/g01398/impl"
 )
@@ -190,21 +188,14 @@ func TestP1RowsOfManyCallsAtOnce(t *testing.T) {
 }
 
 func TestP1RowsLeaveNoGoroutines(t *testing.T) {
-	before := runtime.NumGoroutine()
-	for range 50 {
-		for _, text := range []string{"", examplePieces, ring, twins} {
-			impl.LongestRow(piecesOf(text))
-			impl.RowsThat(piecesOf(text), exampleList())
+	leaveNoGoroutines(t, func() {
+		for range 50 {
+			for _, text := range []string{"", examplePieces, ring, twins} {
+				impl.LongestRow(piecesOf(text))
+				impl.RowsThat(piecesOf(text), exampleList())
+			}
 		}
-	}
-	// One that has sent all its rows may need a moment to end.
-	for range 100 {
-		if runtime.NumGoroutine() <= before {
-			return
-		}
-		time.Sleep(10 * time.Millisecond)
-	}
-	t.Errorf("there were %d goroutines, and now there are %d", before, runtime.NumGoroutine())
+	})
 }
 
 func guardStones(a stoneArgs) (stoneArgs, func() bool) {

@@ -3,8 +3,10 @@ package tests
 import (
 	"fmt"
 	"reflect"
+	"runtime"
 	"slices"
 	"testing"
+	"time"
 
 	"loop.example/g01398/impl"
 )
@@ -39,6 +41,16 @@ func isError[A any](t *testing.T, name string, c call[A], a A, want int64) {
 	results := c.run(a)
 	last := len(results) - 1
 	isCode(t, c.name+", "+name, results[last].(int64), want, results[:last]...)
+}
+
+// areErrors looks that a call returns a code for each one of some bad things, put among its arguments.
+func areErrors[A, B any](t *testing.T, c call[A], a A, want int64, bad map[string]B, put func(a *A, b B)) {
+	t.Helper()
+	for name, b := range bad {
+		with := a
+		put(&with, b)
+		isError(t, name, c, with, want)
+	}
 }
 
 // haveEqualResults makes all calls twice, the second time in the other order and with other memory.
@@ -123,4 +135,19 @@ func shareNoMemory[A any](t *testing.T, cases []A, calls []call[A], guarded func
 			}
 		}
 	}
+}
+
+// leaveNoGoroutines looks that there are no more goroutines behind some calls than ahead of them.
+func leaveNoGoroutines(t *testing.T, calls func()) {
+	t.Helper()
+	before := runtime.NumGoroutine()
+	calls()
+	// One that has sent all that it has may need a moment to end.
+	for range 100 {
+		if runtime.NumGoroutine() <= before {
+			return
+		}
+		time.Sleep(10 * time.Millisecond)
+	}
+	t.Errorf("there were %d goroutines, and now there are %d", before, runtime.NumGoroutine())
 }
